@@ -1,0 +1,1 @@
+"""Roads between tables: books of moves, told sums, and papers for each answer."""
