@@ -15,10 +15,8 @@ def is_ratio(value):
 
 
 def ratio(number, under):
-    """The RATIO of two INTEGERS, under not 0."""
+    """The RATIO of two INTEGERS, under above 0."""
     common = gcd(number, under)
-    if under < 0:
-        common = -common
     return (number // common, under // common)
 
 

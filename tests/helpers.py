@@ -125,7 +125,8 @@ HIGH = ("frame", tuple(tuple(int(at == cell) for at in range(16)) for cell in ra
 WRONG_FRAMES = [
     ("frame", [(1, 1)]), ["frame", ((1, 1),)], ("frame", ((1, 1), (1,))), ("frame", ((1, 0), (1, 0))),
     ("frame", ((0, 10),)), ("frame", ((1, -1), (0, 2))), ("frame", ((1, True),)), ("frame", ((True, 1),)),
-    ("frame", ([1, 1],)), ("frame", ((),)), ("frame", ()), ("Frame", ((1,),)), ("frame", ((1,),), ()),
+    ("frame", ([1, 1],)), ("frame", ((1, 1), [1, 1])), ("frame", ((),)), ("frame", ()),
+    ("Frame", ((1,),)), ("frame", ((1,),), ()),
     ("frame", (tuple([1] * 17),)), ("frame", tuple([(1,)] * 17)), ("frame", ((1, "1"),)), ("frame", ((0,),)),
     (Odd(), ((1,),)), ("frame", (Odd(),)), ("frame", ((Odd(),),)), ("frame", ((1, None),)),
 ]

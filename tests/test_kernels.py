@@ -76,6 +76,8 @@ class Kernels(Holds, unittest.TestCase):
                 for row, times in zip(basis(frame), told):
                     made = [a + times * b for a, b in zip(made, row)]
                 self.assertEqual(change, tuple(made))
+        self.assertEqual(change_by(COINS, (10 ** 6,)), (10 ** 6, -2 * 10 ** 6, 10 ** 6))
+        self.assertEqual(change_by(COINS, (-10 ** 6,)), (-10 ** 6, 2 * 10 ** 6, -10 ** 6))
         self.assertEqual(numbers_of(HIGH, tuple([0] * 16)), ())
         self.assertEqual(change_by(HIGH, ()), tuple([0] * 16))
 
