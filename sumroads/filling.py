@@ -12,6 +12,8 @@ class Filling:
     steps: for each cell the stepped rows of the columns behind it, with a 0, and of its
     own one, with a 1: by them is seen which counts can leave whole sums of the others.
     fences: for each cell the tuples (row, its product with the cell's column).
+    ceilings: what no cell may be above, None if all may be; rooms: for each cell, fence
+    by fence, the row's product with the sums of the cells behind it, filled to their ceilings.
     dead: cells and sums left that can't be filled from there on.
     """
 
@@ -20,10 +22,23 @@ class Filling:
         self.descending = descending
         self.steps = steps_of(self.columns)
         self.fences = []
+        self.ceilings = None
+        self.rooms = []
         self.dead = {}
         told = fences_behind(self.columns, len(frame[1]))
         for cell, column in enumerate(self.columns):
             self.fences.append([(row, inner(row, column)) for row in told[cell + 1]])
+
+    def put_under(self, ceilings):
+        """From now on no cell is filled above its ceiling."""
+        self.ceilings = ceilings
+        self.dead = {}
+        self.rooms = []
+        room = tuple([0] * len(self.columns[0]))
+        for cell in reversed(range(len(self.columns))):
+            self.rooms.append([inner(row, room) for row, _ in self.fences[cell]])
+            room = put_on(room, ceilings[cell], self.columns[cell])
+        self.rooms = self.rooms[::-1]
 
     def first_ones(self, cell, left, least, most):
         """The first ways, at most so many, to fill the cells from this one on.
@@ -82,6 +97,20 @@ class Filling:
                 least = max(least, -(side // -by))
             elif side < 0:
                 most = -1
+        if self.ceilings is not None:
+            return self.bounds_under(cell, left, least, min(most, self.ceilings[cell]))
+        return least, most
+
+    def bounds_under(self, cell, left, least, most):
+        """Bounds such that the cells behind have room enough for what is left."""
+        for (row, by), room in zip(self.fences[cell], self.rooms[cell]):
+            beyond = inner(row, left) - room
+            if by > 0:
+                least = max(least, -(-beyond // by))
+            elif by < 0:
+                most = min(most, -beyond // -by)
+            elif beyond > 0:
+                most = -1
         return least, most
 
 
@@ -99,6 +128,13 @@ def steps_of(columns):
 def first_tables(frame, sums, most):
     """The first tables of the lot, at most so many."""
     return Filling(frame, False).first_ones(0, sums, 0, most)
+
+
+def first_under(frame, sums, ceilings, most):
+    """The first tables of the lot that are under ceilings, at most so many."""
+    filling = Filling(frame, False)
+    filling.put_under(ceilings)
+    return filling.first_ones(0, sums, 0, most)
 
 
 def last_table(frame, sums):

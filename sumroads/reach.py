@@ -35,8 +35,11 @@ class Steps:
         return self.known.get(put_on(other, -1, table))
 
 
-def walked(book, table):
-    """All tables joined with a table, nearest ones first: each with the one ahead of it."""
+def walked(book, table, ceilings=None):
+    """All tables joined with a table, nearest ones first: each with the one ahead of it.
+
+    With ceilings all roads stay under them.
+    """
     steps = Steps(book)
     ahead = {table: None}
     queue = [table]
@@ -45,9 +48,13 @@ def walked(book, table):
         here = queue[at]
         at += 1
         for other in steps.tables_from(here):
-            if other not in ahead:
+            if other not in ahead and (ceilings is None or is_under(other, ceilings)):
                 ahead[other] = here
                 queue.append(other)
         if len(queue) > MOST_TABLES:
             raise TooMany("tables", MOST_TABLES)
     return ahead
+
+
+def is_under(table, ceilings):
+    return all([count <= most for count, most in zip(table, ceilings)])

@@ -18,7 +18,12 @@ def is_road(frame, book, value):
         return False
     if not all([is_table_of(frame, table) for table in value]):
         return False
-    return None not in ways_along(book, value)
+    return is_way(book, value)
+
+
+def is_way(book, tables):
+    """Whether one move of the book leads from each table but the last one to the next one."""
+    return None not in ways_along(book, tables)
 
 
 def ways_along(book, tables):
@@ -31,7 +36,14 @@ def road(frame, book, table, other):
     check_book(frame, book)
     check_table(frame, table)
     check_table(frame, other)
-    ahead = walked(book, table)
+    return road_along(walked(book, table), other)
+
+
+def road_along(ahead, other):
+    """The road to a table from where all tables of a walk come, None if it is not one of them.
+
+    ahead: each table of the walk with the one ahead of it.
+    """
     if other not in ahead:
         return None
     tables = [other]
