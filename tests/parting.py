@@ -1,0 +1,36 @@
+"""What is within a change, found by trying all, for the tests alone."""
+
+import itertools
+
+from tests.helpers import sums_plainly
+
+
+def within_plainly(row, other):
+    return all(a == 0 or (a > 0 and b >= a) or (a < 0 and b <= a) for a, b in zip(row, other))
+
+
+def changes_within_plainly(frame, change):
+    ranges = [range(min(number, 0), max(number, 0) + 1) for number in change]
+    nought = (0,) * len(frame[1])
+    return [part for part in itertools.product(*ranges) if sums_plainly(frame, part) == nought]
+
+
+def is_unparted_plainly(frame, change):
+    return any(change) and len(changes_within_plainly(frame, change)) == 2
+
+
+def is_parted_sum_plainly(frame, change, value):
+    parts = list(value)
+    if not all(within_plainly(part, change) and is_unparted_plainly(frame, part) for part in parts):
+        return False
+    return tuple(sum(part[cell] for part in parts) for cell in range(len(change))) == tuple(change)
+
+
+def unparted_plainly(frame, most):
+    """All unparted moves with no number above most in size."""
+    cells = len(frame[1][0])
+    found = []
+    for row in itertools.product(range(-most, most + 1), repeat=cells):
+        if row > (0,) * cells and not any(sums_plainly(frame, row)) and is_unparted_plainly(frame, row):
+            found.append(row)
+    return found
