@@ -24,11 +24,11 @@ class Knit:
 class Completing:
     """Rules on their way to complete ones.
 
-    knits: all rules that were found; live: those of them whose aheads hold no further
-    one's, readies: these made ready. pairs: for two positions the monomial of their overlap, as long as it is to be
-    looked at. queue: what is to be looked at, the least grade first. free: a bit for each
-    letter that can be taken back: some monomial with it is led alike with nought. Such
-    letters are taken off where both sides of a rule have them.
+    knits: all rules that were found; live: those of them whose aheads hold no further one's;
+    readies: these made ready. pairs: for two positions the monomial of their overlap, as long
+    as it is to be looked at. queue: what is to be looked at, the least grade first.
+    free: a bit for each letter that can be taken back: some monomial with it is led alike with
+    nought. Such letters are taken off where both sides of a rule have them.
 
     If all rules that are put in have sides of one grade each, whatever is found at a grade
     stays, and what comes of greater grades is not needed for monomials of lesser ones.
