@@ -44,8 +44,8 @@ def check_two_tables(frame, table, other):
 def between(frame, table, other):
     check_two_tables(frame, table, other)
     least = tuple([min(count, more) for count, more in zip(table, other)])
-    rest = sums_by(frame, put_on(table, -1, least))
-    tables = first_under(frame, rest, sizes_of(put_on(other, -1, table)), MOST_TABLES + 1)
+    sums = sums_by(frame, put_on(table, -1, least))
+    tables = first_under(frame, sums, sizes_of(put_on(other, -1, table)), MOST_TABLES + 1)
     if len(tables) > MOST_TABLES:
         raise TooMany("tables", MOST_TABLES)
-    return [put_on(least, 1, other) for other in tables]
+    return [put_on(least, 1, rest) for rest in tables]

@@ -69,45 +69,51 @@ def flat_of(frame, stack):
 class Stacking:
     """The ways to fill layers with told sums, when what stands over all of them is told.
 
-    dead: numbers of layers and what is left over all of them, from which no way leads on.
+    fillings: for each layer the ways to fill its cells under what is left over all layers.
+    dead: layers, cells, sums left and what is left over all, from which no way leads on.
     """
 
     def __init__(self, frame, sums):
-        self.filling = Filling(frame, False)
         self.sums = sums
+        self.fillings = [Filling(frame, False) for _ in sums]
         self.dead = {}
 
-    def first_stacks(self, layer, left, most):
-        """The first ways, at most so many, to fill the layers from this one on, sorted."""
+    def first_flats(self, layer, left, most):
+        """The first ways, at most so many, to fill the layers from this one on, cell behind cell."""
         if layer == len(self.sums) - 1:
-            return [(left,)]
-        if (layer, left) in self.dead:
-            return []
-        found = []
-        looked_at, wanted = 0, most
-        tables = self.tables(layer, left, wanted)
-        while looked_at < len(tables):
-            for table in tables[looked_at:]:
-                rest = self.first_stacks(layer + 1, put_on(left, -1, table), most - len(found))
-                found.extend([(table,) + tail for tail in rest])
-                if len(found) >= most:
-                    return found
-            looked_at, wanted = len(tables), 2 * wanted
-            if looked_at * 2 == wanted:
-                tables = self.tables(layer, left, wanted)
-        if not found:
-            self.dead[(layer, left)] = True
-        return found
+            # What all others leave has the last layer's sums.
+            return [left]
+        self.fillings[layer].put_under(left)
+        return self.from_cell(layer, 0, self.sums[layer], left, most)
 
-    def tables(self, layer, left, most):
-        """The first tables, at most so many, that the layer can have within what is left."""
-        self.filling.put_under(left)
-        return self.filling.first_ones(0, self.sums[layer], 0, most)
+    def from_cell(self, layer, cell, sums, left, most):
+        if cell == len(left):
+            return self.first_flats(layer + 1, left, most)
+        state = (layer, cell, sums, left)
+        if state in self.dead:
+            return []
+        filling = self.fillings[layer]
+        found = []
+        for count in filling.counts(cell, sums, 0):
+            rest = put_on(sums, -count, filling.columns[cell])
+            others = left[:cell] + (left[cell] - count,) + left[cell + 1:]
+            tails = self.from_cell(layer, cell + 1, rest, others, most - len(found))
+            found.extend([(count,) + tail for tail in tails])
+            if len(found) >= most:
+                break
+        if not found:
+            self.dead[state] = True
+        return found
 
 
 def stacks_with(frame, stack):
     sums, total = stack_sums(frame, stack)
-    stacks = Stacking(frame, sums).first_stacks(0, total, MOST_STACKS + 1)
-    if len(stacks) > MOST_STACKS:
+    flats = Stacking(frame, sums).first_flats(0, total, MOST_STACKS + 1)
+    if len(flats) > MOST_STACKS:
         raise TooMany("stacks", MOST_STACKS)
-    return stacks
+    return [layers_of(flat, len(total)) for flat in flats]
+
+
+def layers_of(flat, cells):
+    """The stack whose flat one this is."""
+    return tuple([flat[at:at + cells] for at in range(0, len(flat), cells)])

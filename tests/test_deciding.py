@@ -15,7 +15,8 @@ from tests.test_elimination import NEAR_200, beside, linked, small_frames
 from tests.test_moves import unit_moves
 from tests.test_papers import BOOK, SHOP
 from tests.test_roads import WRONG_BOOKS
-from tests.test_wholebooks import NEAR_60
+from tests.test_unparted import chained
+from tests.test_wholebooks import NEAR_60, TO_100, TO_99
 from tests.walking import distances_plainly
 
 LISTED = {"decided": decided, "is_whole_book": is_whole_book, "first_parted": first_parted, "lacking": lacking,
@@ -145,6 +146,10 @@ class Deciding(Holds, unittest.TestCase):
 
     def test_sums(self):
         # The last cell's count is 13122 in the one cell rule of both; its row's sum is this, or twice so much.
+        just = chained((5, 1), (5, 1), (5, 1), (5, 1), (4, 1), (8, 1))
+        self.assertEqual(max(sums_plainly(just, cell_rules_plainly(just)[0][0])), 20000)
+        self.assertIs(is_whole_book(just, ()), False)
+        self.too_many("sums", 20000, is_whole_book, chained((9, 1), (8, 1), (7, 1), (5, 1), (8, 2)), ())
         within, beyond = linked(6, (2, 1)), linked(6, (4, 2))
         self.assertEqual(cell_rules_plainly(within), cell_rules_plainly(beyond))
         self.assertEqual(max(sums_plainly(within, cell_rules_plainly(within)[0][0])), 13122)
@@ -188,6 +193,9 @@ class Deciding(Holds, unittest.TestCase):
 
     def test_moves(self):
         self.assertEqual(lacking(linked(3), ()), [(1, -9, 81)])
+        for function, wanted in ((lacking, [(9, 99, -72, -44)]), (filled_up, ((9, 99, -72, -44),))):
+            self.assertEqual(function(TO_99, ()), wanted)
+            self.too_many("moves", 60, function, TO_100, ())
         self.assertEqual(filled_up(linked(3), ()), ((1, -9, 81),))
         self.assertIs(is_whole_book(linked(4), ()), False)
         self.assertEqual(decided(linked(4), ())[0], "parted")

@@ -68,6 +68,16 @@ class Overlaps(Holds, unittest.TestCase):
         self.assertEqual(overlaps(FOUR, low), [(0, 1, (1, 1, 5, 0), (1, 0, 0, 1), (0, 0, 20000, 0))])
         high = (TALL[0], ((1, 1, 0, 0), (0, 0, 19996, 0)))
         self.too_many("counts", 20000, overlaps, FOUR, high)
+        # The result by the one rule, too.
+        pair = ("order", (9, 9, 0))
+        for many in (19999, 20000):
+            rules = (((0, 1, 0), (0, 0, many)), ((1, 1, 0), (0, 0, 0)))
+            self.assertEqual(overlaps(pair, rules), [(0, 1, (1, 1, 0), (1, 0, many), (0, 0, 0))])
+            rules = (((0, 1, 0), (0, 0, many)), ((0, 2, 1), (0, 0, 0)))
+            if many == 19999:
+                self.assertEqual(overlaps(pair, rules), [(0, 1, (0, 2, 1), (0, 1, 20000), (0, 0, 0))])
+            else:
+                self.too_many("counts", 20000, overlaps, pair, rules)
         # Whether it is so is told whatever the counts are.
         self.assertIs(is_complete(FOUR, tuple(sorted(TALL + NOUGHT))), True)
         self.assertIs(is_complete(FOUR, tuple(sorted(TALL + NOUGHT[1:]))), False)

@@ -14,7 +14,7 @@ from sumroads.rules import is_rules, rules_of_book
 from tests.helpers import BROAD, COINS, Holds, SQUARE, TOTAL, WRONG_FRAMES, sums_plainly
 from tests.ruling import (
     alike_plainly, end_plainly, overlaps_plainly, reduced_plainly, rule_plainly, some_rules)
-from tests.test_ends import WRONG
+from tests.test_ends import HEAVY, WRONG
 from tests.test_lots import WRONG_TABLES
 from tests.test_moves import unit_moves
 from tests.test_orders import PLAIN, WRONG_ORDERS
@@ -153,6 +153,17 @@ class Reduced(Holds, unittest.TestCase):
         self.assertIs(is_reduced(FALL, falling(278)), False)
         self.assertIs(leads_alike(FALL, falling(278), (1, 0, 0, 0), (0, 1, 0, 0)), False)
         self.assertIs(leads_alike(FALL, falling(278), (1, 0, 0, 0), (0, 0, 71, 278)), True)
+
+    def test_counts_of_just_20000(self):
+        for rules in ((((20000, 0), (0, 0)),), (((1, 0), (0, 20000)),), (((20000, 1), (0, 20000)),)):
+            self.assertEqual(reduced(HEAVY, rules), rules)
+            self.assertEqual(completed(HEAVY, rules), rules)
+        # The ahead that is found is beyond, no behind is.
+        rules = (((1, 0, 0), (0, 20000, 0)), ((1, 0, 1), (0, 0, 0)))
+        found = (((0, 20000, 1), (0, 0, 0)), ((1, 0, 0), (0, 20000, 0)))
+        self.assertEqual(reduced(("order", (99, 0, 0)), rules), found)
+        rules = (((1, 0, 0), (0, 20000, 0)), ((1, 1, 1), (0, 0, 0)))
+        self.too_many("counts", 20000, reduced, ("order", (99, 0, 0)), rules)
 
     def test_what_comes_on_the_way_is_free(self):
         # Without the last letter's own rule the first one would be led far beyond 20,000.

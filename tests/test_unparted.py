@@ -10,7 +10,7 @@ from tests.parting import changes_within_plainly, is_parted_sum_plainly, is_unpa
 from tests.test_conformal import WRONG_CHANGES, some_changes
 from tests.test_elimination import beside, cube_of, linked, small_frames
 from tests.test_moves import WRONG_MOVES
-from tests.test_wholebooks import GRID
+from tests.test_wholebooks import GRID, TO_100, TO_99
 
 WORTH = ("frame", ((1, 2, 3),))
 SIDE_200 = ("frame", ((1, 9, 4, 5, 8, 2),))
@@ -111,6 +111,8 @@ class Unparted(Holds, unittest.TestCase):
 
     def test_numbers_to_99_and_more(self):
         self.assertEqual(unparted(linked(3)), [(1, -9, 81)])
+        self.assertEqual(unparted(TO_99), [(9, 99, -72, -44)])
+        self.too_many("moves", 200, unparted, TO_100)
         self.too_many("moves", 200, unparted, linked(4))
         self.assertEqual(unparted(chained((9, 2), (9, 5))), [(10, -45, 81)])
         self.assertEqual(unparted(chained((7, 1), (7, 1), (2, 1))), [(1, -7, 49, -98)])

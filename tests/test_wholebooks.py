@@ -18,6 +18,8 @@ from tests.walking import distances_plainly
 EARLY = ("order", (1, 0, 0))
 # 59 moves; a further total of k cells has k - 1.
 NEAR_60 = ("frame", ((0, 9, 6, 6, 6, 5, 4), (5, 7, 3, 9, 8, 2, 0)))
+TO_99 = ("frame", ((5, 1, 2, 0), (8, 0, 1, 0), (0, 4, 0, 9)))
+TO_100 = ("frame", ((6, 0, 5, 5), (3, 0, 6, 1), (0, 4, 3, 2)))
 TURNED_200 = ("frame", ((1, 3, 9, 1, 1, 7, 9, 4), (6, 1, 6, 6, 7, 8, 7, 9)))
 GRID = ("frame", tuple(tuple(int(cell // 3 == row) for cell in range(9)) for row in range(3)) + tuple(
     tuple(int(cell % 3 == column) for cell in range(9)) for column in range(3)))
@@ -108,6 +110,8 @@ class WholeBooks(Holds, unittest.TestCase):
     def test_numbers_to_99_and_more(self):
         self.assertEqual(whole_book(linked(3)), ((1, -9, 81),))
         self.assertEqual(whole_book(("frame", ((9, 1, 0), (0, 9, 1)))), ((1, -9, 81),))
+        self.assertEqual(whole_book(TO_99), ((9, 99, -72, -44),))
+        self.too_many("moves", 60, whole_book, TO_100)
         self.too_many("moves", 60, whole_book, linked(4))
         # The moves made on the way are free.
         self.assertEqual(whole_rules(linked(4), ("order", (0, 0, 0, 0))), (((0, 9, 0, 729), (1, 0, 81, 0)),))
