@@ -18,7 +18,6 @@ def moves_among(changes):
 
 
 def unparted(frame):
-    check_frame(frame)
     return moves_among(unparted_changes(frame))
 
 

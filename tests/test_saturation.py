@@ -14,7 +14,8 @@ from tests.test_elimination import STEPS, THREE_WAYS, cube_of, linked, small_fra
 
 LISTED = {"mark_order": mark_order, "mark_rules": mark_rules, "saturation_rules": saturation_rules,
           "rules_by_lending": rules_by_lending}
-WIDE = ("frame", ((1, 7, 0, 6, 5, 7, 4, 3), (2, 5, 5, 2, 4, 8, 9, 7)))
+AT_200 = ("frame", ((7, 2, 1, 0, 3, 5, 5, 2), (8, 4, 7, 2, 0, 2, 5, 2)))
+AT_201 = ("frame", ((0, 2, 4, 3, 4, 3, 4, 1), (2, 4, 4, 4, 4, 1, 3, 0), (1, 1, 2, 3, 0, 2, 4, 0)))
 WIDER = ("frame", ((9, 0, 9, 3, 9, 7, 7, 6), (4, 5, 2, 9, 4, 2, 0, 8)))
 
 FAR = ("frame", (
@@ -77,12 +78,16 @@ class Saturation(Holds, unittest.TestCase):
         self.assertEqual([sum(ahead) for ahead, _ in told], [4, 4, 4])
 
     def test_more_than_200_rules(self):
-        self.assertEqual(len(saturation_rules(WIDE)), 198)
-        self.assertEqual(saturation_rules(WIDE), reduced(*mark_by_words(WIDE)))
-        for function in (saturation_rules, rules_by_lending):
-            self.too_many("rules", 200, function, WIDER)
-        self.too_many("rules", 200, reduced, *mark_by_words(WIDER))
-        self.assertEqual(len(elimination_rules(WIDE)), 153)
+        self.assertEqual(len(saturation_rules(AT_200)), 200)
+        self.assertEqual(saturation_rules(AT_200), reduced(*mark_by_words(AT_200)))
+        self.assertLess(len(rules_by_lending(AT_200)), 200)
+        for frame in (AT_201, WIDER):
+            for function in (saturation_rules, rules_by_lending):
+                self.too_many("rules", 200, function, frame)
+            self.too_many("rules", 200, reduced, *mark_by_words(frame))
+        # The other way has its own bound.
+        self.assertEqual(rules_by_sums(AT_200), rules_by_lending(AT_200))
+        self.assertLess(len(elimination_rules(AT_201)), 200)
 
     def test_counts(self):
         self.assertEqual(max(max(ahead + behind) for ahead, behind in saturation_rules(linked(5))), 6561)
