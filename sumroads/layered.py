@@ -87,6 +87,7 @@ class Stacking:
         return self.from_cell(layer, 0, self.sums[layer], left, most)
 
     def from_cell(self, layer, cell, sums, left, most):
+        """The same, with the cells of the first one from this cell on, sums being left of its sums."""
         if cell == len(left):
             return self.first_flats(layer + 1, left, most)
         state = (layer, cell, sums, left)

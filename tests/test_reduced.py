@@ -8,6 +8,7 @@ from sumroads.closedlots import closed_lot
 from sumroads.completion import completed
 from sumroads.ends import have_one_end
 from sumroads.errors import InvalidBook, InvalidFrame, InvalidMonomial, InvalidOrder, InvalidRules, InvalidTable
+from sumroads.kernels import basis
 from sumroads.overlaps import is_complete
 from sumroads.reduced import is_reduced, joined_by_ends, leads_alike, reduced, reduced_book
 from sumroads.rules import is_rules, rules_of_book
@@ -208,10 +209,15 @@ class Reduced(Holds, unittest.TestCase):
         book = tuple(sorted(moves))
         told = reduced_book(frame, order, book)
         self.assertEqual(told, reduced(order, rules_of_book(order, book)))
-        hard = ("frame", ((7, 8, 9, 5), (2, 0, 1, 3)))
-        for book in (((1, -26, 16, 0),), ((49, -19, -38, 0),)):
-            if all(sum(a * b for a, b in zip(row, book[0])) == 0 for row in hard[1]):
-                self.assertTrue(reduced_book(hard, ("order", (0, 0, 0, 0)), book))
+        # Seven moves that have more than 200 reduced rules.
+        frame = ("frame", ((4, 9, 4, 3, 4, 7, 5, 1, 6), (6, 2, 2, 4, 1, 5, 4, 9, 9)))
+        moves = tuple(sorted(basis(frame)))
+        order = ("order", (50, 99, 99, 2, 0, 2, 2, 2, 5))
+        self.too_many("rules", 200, reduced_book, frame, order, moves)
+        self.assertLess(len(reduced_book(frame, order, moves[:3])), 200)
+        self.assertIs(joined_by_ends(frame, order, moves, (0,) * 8 + (41,), (0,) * 6 + (45, 21, 0)), True)
+        self.assertIs(joined_by_ends(frame, order, moves, (0,) * 8 + (40,), (0,) * 8 + (40,)), True)
+        self.assertIs(joined_by_ends(frame, order, moves[1:], (0,) * 8 + (41,), (0,) * 6 + (45, 21, 0)), False)
 
     def test_joined_by_ends(self):
         yes = no = 0
