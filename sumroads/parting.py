@@ -1,4 +1,4 @@
-"""All unparted changes of a frame, cell by cell.
+"""All unparted changes of stepped rows, cell by cell.
 
 Looked at on the first cells alone, changes are parted or not as they are on all cells. What
 is unparted on some first cells stays so with one cell more; further ones are sums of two with
@@ -14,6 +14,32 @@ from sumroads.kernels import basis, cells_of
 from sumroads.moves import MOST_IN_MOVE, turned
 
 MOST_UNPARTED = 200
+
+
+class Limits:
+    """What unparted changes keep to: TooMany(what, limit) as soon as they do not.
+
+    known: how many there are, both signs counted; size: how great a number is; total: how
+    great all numbers of one are together. None where it may be any.
+    """
+
+    def __init__(self, what, limit, known, size, total):
+        self.what = what
+        self.limit = limit
+        self.known = known
+        self.size = size
+        self.total = total
+
+    def check(self, row, known):
+        """row: what stands on the first cells of one of so many that are known.
+
+        There some unparted change of all cells has the very same numbers.
+        """
+        sizes = [abs(number) for number in row]
+        is_beyond = self.known is not None and known > self.known
+        is_beyond = is_beyond or self.size is not None and max(sizes) > self.size
+        if is_beyond or self.total is not None and sum(sizes) > self.total:
+            raise TooMany(self.what, self.limit)
 
 
 class Known:
@@ -51,8 +77,9 @@ class Parting:
     queue: the tuples (size, number, one, other) of sums that are to be looked at.
     """
 
-    def __init__(self, changes, cell):
+    def __init__(self, changes, cell, limits):
         self.cell = cell
+        self.limits = limits
         self.known = []
         self.queue = []
         self.told = 0
@@ -65,11 +92,11 @@ class Parting:
                 self.told += 1
                 heappush(self.queue, (new.size + other.size, self.told, new.change, other.change))
         self.known.append(new)
-        if len(self.known) > 2 * MOST_UNPARTED or abs(new.here) > MOST_IN_MOVE:
-            raise TooMany("moves", MOST_UNPARTED)
+        # A sum has greater numbers at the first cells, too, not at the new one alone.
+        self.limits.check(new.change[:self.cell + 1], len(self.known))
 
     def all_known(self):
-        """All unparted ones on the first cells and the new one; TooMany if they are more."""
+        """All unparted ones on the first cells and the new one; TooMany if they are beyond the limits."""
         while self.queue:
             _, _, one, other = heappop(self.queue)
             made = put_on(one, 1, other)
@@ -96,12 +123,18 @@ def with_row(changes, row):
     return found
 
 
-def unparted_changes(frame):
-    """All unparted changes, of both signs; TooMany if they are too many or too great."""
-    heads = {first_place(row): row for row in basis(frame)}
+def unparted_sums(rows, cells, limits):
+    """All unparted ones, of both signs, of the whole sums of stepped rows of so many cells."""
+    heads = {first_place(row): row for row in rows}
     changes = []
-    for cell in range(cells_of(frame)):
+    for cell in range(cells):
         if cell in heads:
             changes = with_row(changes, heads[cell])
-        changes = Parting(changes, cell).all_known()
+        changes = Parting(changes, cell, limits).all_known()
     return changes
+
+
+def unparted_changes(frame):
+    """All unparted changes, of both signs; TooMany if they are too many or too great."""
+    limits = Limits("moves", MOST_UNPARTED, 2 * MOST_UNPARTED, MOST_IN_MOVE, None)
+    return unparted_sums(basis(frame), cells_of(frame), limits)

@@ -32,6 +32,18 @@ ceilings: whole_under(frame, book, ceilings, sums) whole_under_all(frame, book) 
 ceilings: is_straight_road(frame, table, other, value)
 layered: is_stack(frame, value) stack_sums(frame, stack) layered_frame(frame, many) flat_of(frame, stack)
 layered: stacks_with(frame, stack)
+kinds: is_pattern(frame, value) is_pattern_book(frame, value) pattern_of(frame, changes) pattern_kind(frame, pattern)
+kinds: pattern_ends(frame, pattern) stack_steps(frame, patterns, stack) closed_stacks(frame, patterns, stack)
+kinds: stack_road(frame, patterns, stack, other) is_stack_road(frame, patterns, value)
+anynumber: unparted_choices(frame) told_number(frame) unparted_patterns(frame) is_unparted_pattern(frame, pattern)
+anynumber: whole_for(frame, patterns, many) decided_any(frame, patterns) is_any_paper(frame, patterns, value)
+webs: web_of(model) friends(model, position) is_close(model, names) greatest(model) is_fitted(model)
+holes: sequence(model) hole(model) is_sequence(model, value) is_hole(model, value)
+glued: is_cut(model, value) exchanges(model, cut) cuts(model) formula_book(model)
+prices: is_prices(frame, value) cost(frame, table, prices) price_order(frame, prices)
+cheapest: cheapest(frame, table, prices) cheapest_in(frame, sums, prices) is_cheapest(frame, table, prices)
+cheapest: plain_cheapest(frame, sums, prices) falling_road(frame, table, prices)
+bounds: cell_bounds(frame, table, position) plain_bounds(frame, sums, position) told_cells(frame, table) always_told(frame)
 """
 
 
