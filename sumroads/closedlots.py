@@ -42,9 +42,14 @@ def is_one_closed_part(steps, tables):
 def parts_of_lot(frame, book, sums):
     check_book(frame, book)
     check_sums(frame, sums)
+    return parts_of_tables(book, lot(frame, sums))
+
+
+def parts_of_tables(book, tables):
+    """The sorted parts of a lot that is told by its tables."""
     placed = {}
     parts = []
-    for table in lot(frame, sums):
+    for table in tables:
         if table not in placed:
             part = sorted(walked(book, table))
             parts.append(part)

@@ -8,7 +8,7 @@ from sumroads.lots import MOST_TABLES, is_table_of
 from sumroads.moves import check_book
 from sumroads.orders import MOST_COUNT
 from sumroads.overlaps import is_closed_up
-from sumroads.reach import Steps
+from sumroads.reach import Steps, is_under
 from sumroads.ready import made_ready
 from sumroads.roads import is_way
 from sumroads.rules import are_rules
@@ -69,18 +69,21 @@ def have_starts_one_end(frame, readies):
     return True
 
 
-def are_roads_of(frame, book, rules, roads):
-    """Whether there is, cell rule by cell rule, a road from its table ahead to that behind."""
+def is_road_of(book, rule, road):
+    """Whether a tuple of tables is a road by the book from the table ahead to that behind."""
+    ahead, behind = rule
+    return len(road) > 0 and road[0] == ahead and road[-1] == behind and is_way(book, road)
+
+
+def wrong_roads(frame, book, rules, roads):
+    """The positions of the cell rules whose road is none; None if there are more or fewer roads than cell rules."""
     pairs = rules_of_cells(rules, len(frame[1]))
     if len(pairs) != len(roads):
-        return False
-    for (ahead, behind), road in zip(pairs, roads):
-        if len(road) == 0 or road[0] != ahead or road[-1] != behind or not is_way(book, road):
-            return False
-    return True
+        return None
+    return [at for at in range(len(pairs)) if not is_road_of(book, pairs[at], roads[at])]
 
 
-def reason_against_yes(frame, book, rules, roads):
+def reason_against_rules(frame, rules):
     readies = made_ready(rules)
     if not keep_sums(frame, rules):
         return "sums"
@@ -88,21 +91,40 @@ def reason_against_yes(frame, book, rules, roads):
         return "start"
     if not is_closed_up(readies, MOST_COUNT):
         return "overlap"
-    if not are_roads_of(frame, book, rules, roads):
-        return "roads"
     return None
+
+
+def reason_against_yes(frame, book, rules, roads):
+    word = reason_against_rules(frame, rules)
+    if word is None and wrong_roads(frame, book, rules, roads) != []:
+        return "roads"
+    return word
+
+
+def is_apart(table, other, closed):
+    """Whether closed is rising, has the table and not the other one."""
+    return is_rising(closed) and table in closed and other not in closed
+
+
+def leading_out(book, closed, ceilings=None):
+    """The positions of the tables of closed from which a move leads out; with ceilings, to one under them."""
+    inside = {here: True for here in closed}
+    steps = Steps(book)
+    found = []
+    for at, here in enumerate(closed):
+        outside = [to for to in steps.tables_from(here) if to not in inside]
+        if ceilings is not None:
+            outside = [to for to in outside if is_under(to, ceilings)]
+        if outside:
+            found.append(at)
+    return found
 
 
 def reason_against_no(frame, book, table, other, closed):
     if sums_by(frame, table) != sums_by(frame, other):
         return "sums"
-    if not is_rising(closed) or table not in closed or other in closed:
+    if not is_apart(table, other, closed) or leading_out(book, closed):
         return "closed"
-    inside = {here: True for here in closed}
-    steps = Steps(book)
-    for here in closed:
-        if not all([to in inside for to in steps.tables_from(here)]):
-            return "closed"
     return None
 
 

@@ -24,6 +24,10 @@ def ratio_sum(one, other):
     return ratio(one[0] * other[1] + other[0] * one[1], one[1] * other[1])
 
 
+def ratio_product(one, other):
+    return ratio(one[0] * other[0], one[1] * other[1])
+
+
 def ratio_times(one, many):
     """The RATIO taken as often as an INTEGER tells."""
     return ratio(one[0] * many, one[1])

@@ -6,6 +6,26 @@ import unittest
 from tests.test_language import PACKAGE, parsed
 
 TOLD = """
+rows: is_row(value) added(one, other) product(one, other) taken(row, many) head(row) divisor(row) share(row)
+rows: is_share(row, value)
+echelon: stepped(rows) rank(rows) leading(rows) is_leading(rows, value) same_span(rows, others) whole_sum(rows, row)
+echelon: solved(rows, goal) bar(rows, goal) is_solution(rows, goal, value) is_bar(rows, goal, value)
+kernels: is_frame(value) is_change(frame, value) basis(frame) numbers_of(frame, change) change_by(frame, numbers)
+tokens: tokens_of(text)
+models: is_model(value) places_of(model)
+parser: parse_model(text) parse_table(model, text)
+printer: model_text(model) table_text(model, table) sums_text(model, sums) cell_name(model, position)
+frames: frame_of(model) row_labels(model) cell_of(model, text)
+lots: is_table(frame, value) is_sums(frame, value) sums_of(frame, table) lot(frame, sums) is_empty(frame, sums)
+counting: lot_count(frame, sums) cell_counts(frame, sums, position) sums_of_total(frame, total)
+ranking: table_at(frame, sums, number) number_of(frame, table) least_table(frame, sums) greatest_table(frame, sums)
+ranking: next_table(frame, table)
+moves: is_move(frame, value) is_book(frame, value) move_of(frame, change) ends(frame, move) book_of(frame, rows)
+roads: steps_from(frame, book, table) is_road(frame, book, value) road(frame, book, table, other)
+roads: distance(frame, book, table, other) are_joined(frame, book, table, other) moves_of_road(frame, book, road)
+closedlots: closed_lot(frame, book, table) is_closed_lot(frame, book, value) parts_of_lot(frame, book, sums)
+closedlots: parted(frame, book, sums)
+orders: is_order(value) is_monomial(many, value) greater(order, one, other) sorted_by(order, monomials)
 rules: is_rule(order, value) is_rules(order, value) rule_of(order, one, other) rule_of_move(order, move)
 rules: rules_of_book(order, book) goes_by(rule, monomial) led_once(rule, monomial)
 ends: end_of(order, rules, monomial) path_of(order, rules, monomial) have_one_end(order, rules, one, other)
@@ -44,6 +64,23 @@ prices: is_prices(frame, value) cost(frame, table, prices) price_order(frame, pr
 cheapest: cheapest(frame, table, prices) cheapest_in(frame, sums, prices) is_cheapest(frame, table, prices)
 cheapest: plain_cheapest(frame, sums, prices) falling_road(frame, table, prices)
 bounds: cell_bounds(frame, table, position) plain_bounds(frame, sums, position) told_cells(frame, table) always_told(frame)
+draws: weight_of(kind, table) chance(kind, table, other) is_draw(book, value)
+walks: step_by(frame, book, table, draw, kind) walk(frame, book, table, draws, kind) matrix(frame, book, sums, kind)
+shares: weighed_shares(frame, sums, kind) is_shares(frame, sums, value)
+shares: shares_behind(frame, book, sums, kind, shares, many) is_kept(frame, book, sums, kind, shares)
+shares: part_shares(frame, book, sums, kind) share_at_most(frame, table, kind)
+symmetries: is_exchange(value) led(exchange, row) done_after(exchange, after) back_of(exchange) is_symmetry(frame, value)
+symmetries: symmetries(frame) group(frame, exchanges)
+orbits: orbit_of_table(frame, exchanges, table) orbit_of_move(frame, exchanges, move)
+orbits: is_closed_under(frame, exchanges, book) book_under(frame, exchanges, book)
+orbits: orbits_of_book(frame, exchanges, book) first_moves(frame, exchanges) is_whole_by_orbits(frame, exchanges, book)
+judge: is_claim(value) judged(value) claim_of(frame, book, paper)
+records: tree_text(value) check_of(text) record_text(claim) parse_record(text)
+commands: is_command(value) is_deed(value) change_text(row)
+"""
+DESK = """
+names(self) do(self, command) do_all(self, *commands) lines(self) twin(self) again(cls, lines)
+__init__(self) __len__(self) __getitem__(self, name) __contains__(self, name) __call__(self, command)
 """
 
 
@@ -60,3 +97,12 @@ class Interface(unittest.TestCase):
                 self.assertEqual(
                     (arguments.posonlyargs, arguments.kwonlyargs, arguments.vararg, arguments.kwarg, arguments.defaults),
                     ([], [], None, None, []), word)
+
+    def test_methods_of_the_desk(self):
+        classes = [node for node in parsed(PACKAGE / "desk.py").body if isinstance(node, ast.ClassDef) and node.name == "Desk"]
+        self.assertEqual([one.bases for one in classes], [[]])
+        methods = {node.name: node for node in classes[0].body if isinstance(node, ast.FunctionDef)}
+        for told in DESK.replace("\n", " ").strip().rstrip(")").split(") "):
+            word, parameters = told.strip().split("(")
+            self.assertEqual(ast.unparse(methods[word].args), parameters)
+            self.assertEqual([ast.unparse(one) for one in methods[word].decorator_list], ["classmethod"] if word == "again" else [])
