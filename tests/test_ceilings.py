@@ -7,17 +7,18 @@ import unittest
 from sumroads.ceilings import closed_lot_under, is_straight_road, lot_under, straight_road, whole_under, whole_under_all
 from sumroads.deciding import is_whole_book
 from sumroads.errors import InvalidBook, InvalidCeilings, InvalidFrame, InvalidSums, InvalidTable, UnlikeSums
+from sumroads.kernels import basis
 from sumroads.moves import book_of
 from sumroads.unparted import unparted
 from sumroads.wholebooks import whole_book
 from tests.helpers import BROAD, COINS, HIGH, Holds, Odd, SQUARE, TOTAL, WRONG_FRAMES, lot_plainly, odd_values, sums_plainly
-from tests.parting import is_unparted_plainly
+from tests.parting import is_unparted_plainly, unparted_by_sums
 from tests.test_deciding import frames_and_books
 from tests.test_elimination import linked, small_frames
 from tests.test_lots import WRONG_SUMS, WRONG_TABLES
 from tests.test_moves import unit_moves
 from tests.test_roads import WRONG_BOOKS
-from tests.test_unparted import SIDE_200, WORTH, grid
+from tests.test_unparted import GREAT, SIDE_200, WORTH, grid
 from tests.walking import steps_plainly
 
 TWO = ((0, 1, -1), (1, -1, 0))
@@ -161,6 +162,12 @@ class Ceilings(Holds, unittest.TestCase):
         self.assertEqual(whole_under_all(SIDE_200, whole_book(SIDE_200))[0], "ceilings")
         for frame in (grid(4, 4), linked(4), ("frame", ((1, 2, 3, 4, 5, 6, 7),))):
             self.too_many("moves", 200, whole_under_all, frame, ())
+
+    def test_whole_under_all_where_an_unparted_move_is_too_great(self):
+        for frame in GREAT:
+            small = [move for move in unparted_by_sums(basis(frame), 200) if max(abs(number) for number in move) <= 99]
+            for book in ((), tuple(small[:1]), tuple(small)):
+                self.too_many("moves", 200, whole_under_all, frame, book)
 
     def test_straight_roads(self):
         long = 0

@@ -1,18 +1,24 @@
 """Unparted changes, parted sums [102] to [104], [108], held against trials of all changes."""
 
+import itertools
+import random
 import unittest
 
 from sumroads.errors import InvalidChange, InvalidFrame, InvalidMany, InvalidMove
 from sumroads.kernels import basis, change_by
 from sumroads.unparted import is_parted_sum, is_unparted, parted_sum, plain_unparted, unparted
-from tests.helpers import BROAD, COINS, HIGH, Holds, Odd, SQUARE, TOTAL, WRONG_FRAMES, odd_values, sums_plainly
-from tests.parting import changes_within_plainly, is_parted_sum_plainly, is_unparted_plainly, unparted_plainly
+from tests.helpers import BROAD, COINS, HIGH, Holds, Odd, SQUARE, TOTAL, WRONG_FRAMES, odd_values, random_frame, sums_plainly
+from tests.parting import changes_within_plainly, is_parted_sum_plainly, is_unparted_plainly, unparted_by_sums, unparted_plainly
 from tests.test_conformal import WRONG_CHANGES, some_changes
 from tests.test_elimination import beside, cube_of, linked, small_frames
 from tests.test_moves import WRONG_MOVES
 from tests.test_wholebooks import GRID, TO_100, TO_99
 
 WORTH = ("frame", ((1, 2, 3),))
+GREAT = [
+    ("frame", ((7, 0, 0, 2, 0), (0, 1, 5, 0, 0), (0, 0, 3, 9, 7))), ("frame", ((0, 3, 0, 7, 0), (0, 0, 8, 2, 9), (8, 1, 0, 0, 0))),
+    ("frame", ((0, 0, 8, 1, 2), (1, 8, 0, 3, 0), (0, 1, 0, 2, 0))), ("frame", ((5, 0, 9, 0, 0), (0, 8, 7, 9, 2), (1, 9, 3, 3, 3))),
+    ("frame", ((1, 8, 5, 0, 8), (1, 5, 0, 0, 3), (1, 0, 8, 8, 0)))]
 SIDE_200 = ("frame", ((1, 9, 4, 5, 8, 2),))
 
 
@@ -123,6 +129,52 @@ class Unparted(Holds, unittest.TestCase):
         self.too_many("moves", 200, unparted, frame)
         self.assertEqual(plain_unparted(frame, 1), [(0, 0, 0, 0, 1, -1)])
         self.assertIs(is_unparted(frame, (0, 0, 0, 0, 1, -1)), True)
+
+    def test_great_numbers_at_any_cell(self):
+        # Each has unparted moves with a number above 99, at other cells than the last one, or as sums of lesser ones.
+        for frame in GREAT:
+            self.assertGreater(max(sizes(move) for move in unparted_by_sums(basis(frame), 200)), 99)
+            self.too_many("moves", 200, unparted, frame)
+        draw = random.Random(8)
+        beyond, within = [0] * 5, 0
+        for _ in range(150):
+            cells = draw.choice([4, 5])
+            frame = random_frame(draw, cells, cells - 2, 9)
+            wanted = unparted_by_sums(basis(frame), 60)
+            if wanted is None:
+                continue
+            if all(sizes(move) <= 99 for move in wanted):
+                self.assertEqual(unparted(frame), wanted)
+                within += 1
+                continue
+            self.too_many("moves", 200, unparted, frame)
+            for cell in range(cells):
+                beyond[cell] += any(abs(move[cell]) > 99 for move in wanted)
+        self.assertGreater(within, 50)
+        self.assertGreater(min(beyond), 0)
+
+    def test_great_numbers_whatever_the_sequence_of_the_cells(self):
+        for frame in GREAT[:3]:
+            for places in itertools.permutations(range(5)):
+                turned = ("frame", tuple(tuple(row[place] for place in places) for row in frame[1]))
+                self.too_many("moves", 200, unparted, turned)
+
+    def test_99_and_100_as_sums_of_lesser_ones(self):
+        # All rows of the basis are lesser; the greatest number stands at the cell that is told, not at the last one.
+        for frame, cell, most in (
+                (("frame", ((0, 0, 5, 5, 1), (2, 0, 0, 8, 6), (7, 9, 0, 0, 0))), 0, 99),
+                (("frame", ((9, 3, 3, 0, 9), (7, 5, 6, 1, 0), (0, 1, 0, 9, 0))), 1, 99),
+                (("frame", ((6, 0, 8, 0, 2), (6, 2, 0, 0, 3), (9, 9, 9, 4, 0))), 3, 99),
+                (("frame", ((4, 0, 0, 0, 5), (2, 5, 8, 2, 2), (6, 7, 0, 5, 6))), 0, 100),
+                (("frame", ((0, 5, 8, 2, 5), (5, 2, 4, 0, 0), (0, 4, 4, 6, 0))), 1, 100),
+                (("frame", ((0, 0, 5, 1, 3), (5, 8, 0, 1, 0), (6, 0, 0, 0, 8))), 3, 100)):
+            wanted = unparted_by_sums(basis(frame), 200)
+            self.assertEqual([max(abs(move[cell]) for move in wanted), max(map(sizes, wanted))], [most, most])
+            self.assertLess(max(map(sizes, basis(frame))), 99)
+            if most == 99:
+                self.assertEqual(unparted(frame), wanted)
+            else:
+                self.too_many("moves", 200, unparted, frame)
 
     def test_is_unparted(self):
         for _, frame, change in some_changes(4, 200):
