@@ -5,11 +5,9 @@ from sumroads.closedlots import closed_lot
 from sumroads.commands import change_text
 from sumroads.counting import lot_count
 from sumroads.deciding import is_whole_book
-from sumroads.errors import InvalidPrices
 from sumroads.forms import numbers_in
 from sumroads.frames import cell_names, frame_of
 from sumroads.lots import sums_of
-from sumroads.prices import is_prices
 from sumroads.printer import model_text, sums_text, table_text
 from sumroads.roads import are_joined, distance
 from sumroads.things import check_models
@@ -79,11 +77,8 @@ def whole_told(things, parts):
 
 def cheapest_told(things, parts):
     table = things[parts[1]]
-    frame = frame_of(table.model)
-    prices = numbers_in(parts[2])
-    if not is_prices(frame, prices):
-        raise InvalidPrices(prices)
-    return or_nothing(table_text(table.model, cheapest(frame, table.what, prices)))
+    found = cheapest(frame_of(table.model), table.what, numbers_in(parts[2]))
+    return or_nothing(table_text(table.model, found))
 
 
 def same_told(things, parts):

@@ -25,7 +25,7 @@ def are_shares(many, value):
     whole = 1
     for _, under in value:
         whole = lcm(whole, under)
-    return many > 0 and sum([number * (whole // under) for number, under in value]) == whole
+    return sum([number * (whole // under) for number, under in value]) == whole
 
 
 def check_shares(tables, value):

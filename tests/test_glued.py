@@ -128,6 +128,8 @@ class Glued(Holds, unittest.TestCase):
         self.assertEqual(cuts(APART), [((), (0,), (1, 2, 3)), ((), (0, 1), (2, 3)), ((), (0, 1, 2), (3,))])
         self.assertEqual(cuts(model=WITH_STRING), [((0, 2), (1,), (3,))])
         self.assertEqual(cuts(CUBE), [])
+        # Name 0 follows name 1, and this one its friend 3, to far.
+        self.assertEqual(cuts(("model", FOUR, (), ((0, 1), (1, 3), (2,)))), [((1,), (0,), (2, 3)), ((3,), (0, 1), (2,)), ((), (2,), (0, 1, 3))])
         # Name 0 is put to far with its friend: the name of the cut is 2, far is 3.
         self.assertEqual(cuts(("model", FOUR, (), ((0, 3), (1,), (2,)))), [((3,), (0,), (1, 2)), ((), (1,), (0, 2, 3)), ((), (1, 2), (0, 3))])
 

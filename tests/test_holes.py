@@ -83,7 +83,7 @@ class Holes(Holds, unittest.TestCase):
 
     def test_any_value(self):
         self.asks(is_sequence, ROW, right=[(0, 1, 2), (2, 1, 0), (0, 2, 1), (2, 0, 1)], wrong=[
-            (0, 1), (0, 1, 2, 3), (0, 1, 1), (False, True, 2), (0, True, 2), [2, 1, 0], (0, 1, "2"), (0, 1, None), (0, 1, Odd()), (), (0, 1, -1)])
+            (0, 1), (0, 1, 2, 3), (0, 1, 3), (3, 1, 0), (0, 1, 1), (False, True, 2), (0, True, 2), [2, 1, 0], (0, 1, "2"), (0, 1, None), (0, 1, Odd()), (), (0, 1, -1)])
         self.asks(is_hole, RING, wrong=[
             (0, 1, 2), (0, 1, 2, 3, 0), (False, True, 2, 3), (0, 1, 2, 2), [0, 1, 2, 3], (0, 1, 2, 4), (0, 1, 2, Odd()), (), (0, 1, 2, "3")])
         for function in (is_sequence, is_hole):

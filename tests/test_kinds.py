@@ -194,6 +194,11 @@ class Kinds(Holds, unittest.TestCase):
         self.too_many("stacks", 2000, stack_steps, BROAD, book[:36], stack)
         self.too_many("stacks", 2000, closed_stacks, BROAD, book[:36], stack)
         self.too_many("stacks", 2000, stack_road, BROAD, book[:36], stack, stack)
+        # The k-th pattern goes from each layer with k in its first cell to each other one with k in its second: 10 * 56 + 25 * 49
+        # + 5 * 43 ways; with one more in the last layer 7 more.
+        book = tuple(sorted(((-k, k), (k, -k)) for k in range(1, 41)))
+        self.assertEqual(len(stack_steps(PAIR, book, ((50, 50),) * 6 + ((50, 35), (10, 50)))), 2000)
+        self.too_many("stacks", 2000, stack_steps, PAIR, book, ((50, 50),) * 6 + ((50, 35), (11, 50)))
         # 8 * 7 * 6 * 5 / 4 = 420 for (a, a, b, b), which is itself turned.
         self.assertEqual(len(stack_steps(COINS, ((DOWN, DOWN, UP, UP),), ((9, 9, 9),) * 8)), 420)
 

@@ -176,6 +176,19 @@ class Unparted(Holds, unittest.TestCase):
             else:
                 self.too_many("moves", 200, unparted, frame)
 
+    def test_cells_that_are_not_yet_looked_at(self):
+        # On the way some sums have greater numbers at a later cell, which the basis makes least there.
+        frame = ("frame", ((0, 5, 2, 0, 9, 0), (0, 0, 0, 3, 0, 5), (6, 5, 4, 8, 0, 0)))
+        told = unparted(frame)
+        self.assertEqual((len(told), told), (77, sorted(set(told))))
+        self.assertTrue(all(is_unparted(frame, move) for move in told))
+        for seed in range(40):
+            draw = random.Random(seed)
+            change = change_by(frame, tuple(draw.randint(-2, 2) for _ in range(3)))
+            if sizes(change) <= 99:
+                both = told + [tuple(-number for number in move) for move in told]
+                self.assertLessEqual(set(parted_sum(frame, change)), set(both))
+
     def test_is_unparted(self):
         for _, frame, change in some_changes(4, 200):
             move = max(change, tuple(-number for number in change))
