@@ -29,9 +29,9 @@ def names_told(things, parts):
 
 def thing_shown(things, parts):
     thing = things[parts[1]]
-    if thing.sort == "model":
+    if thing.of_sort == "model":
         return model_text(thing.model)
-    if thing.sort == "table":
+    if thing.of_sort == "table":
         return or_nothing(table_text(thing.model, thing.what))
     return or_nothing("\n".join([change_text(move) for move in thing.what]))
 

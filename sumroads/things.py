@@ -20,10 +20,10 @@ SORTS = ("model", "table", "book")
 
 
 class Thing:
-    """A model, or a table or a book of a model; what is the MODEL, the TABLE, the BOOK itself."""
+    """A model, or a table or a book of a model, as of_sort tells; what is the MODEL, the TABLE, the BOOK itself."""
 
     def __init__(self, sort, model, what):
-        self.sort = sort
+        self.of_sort = sort
         self.model = model
         self.what = what
 
@@ -39,8 +39,8 @@ def check_names(things, parts):
             raise NameTaken(part)
     for sort, part in zip(form, parts[1:]):
         if sort in SORTS or sort in ("name", "like"):
-            wanted = things[parts[1]].sort if sort == "like" else sort
-            if part not in things or wanted not in ("name", things[part].sort):
+            wanted = things[parts[1]].of_sort if sort == "like" else sort
+            if part not in things or wanted not in ("name", things[part].of_sort):
                 raise UnknownName(part)
 
 

@@ -38,6 +38,17 @@ register mro elements open input law version_info with_traceback add_note attrge
 copyright credits delattr dir eval exec exit gc getattr globals hasattr help id importlib license locals methodcaller
 os quit setattr super type vars sys
 """.split())
+# Numbers also as float, whose names some Pythons give to int as well.
+OF_VALUES = {name for kind in (str, int, float, list, dict, set, bytes) for name in dir(kind)}
+FREE_ATTRIBUTES = set("count index title find get join lower upper split strip copy add".split())
+BARRED_ATTRIBUTES = set("""
+items keys values pop update append clear extend insert remove reverse setdefault sort args encode decode hex fromhex
+format format_map register mro elements open input law version_info with_traceback add_note
+""".split())
+FRAME_NAME = r"^(f|tb|co|gi|cr|ag)_(?=[a-z])"
+DOUBLE_METHODS = set("""
+__init__ __eq__ __repr__ __str__ __len__ __enter__ __exit__ __call__ __iter__ __contains__ __getitem__ __setitem__
+""".split())
 AT_ONCE = {"range", "zip", "enumerate", "reversed"}
 TAKERS = {"list", "tuple", "dict", "sorted", "sum", "any", "all", "enumerate", "zip", "min", "max", "reversed", "len"}
 MODIFIERS = {"append", "clear", "extend", "insert", "pop", "remove", "reverse", "setdefault", "update"}
@@ -61,6 +72,34 @@ def is_plain(node):
 
 def is_docstring(node):
     return isinstance(node, ast.Expr) and isinstance(node.value, ast.Constant) and isinstance(node.value.value, str)
+
+
+def may_be_attribute(name):
+    """Whether an attribute may have the name, by L26, and by L8, L12 and L17."""
+    if name in BARRED_ATTRIBUTES or not re.match(r"^_?[A-Za-z][A-Za-z0-9_]*$", name) or re.match(FRAME_NAME, name):
+        return False
+    return name in FREE_ATTRIBUTES or name not in OF_VALUES
+
+
+def may_be_method(name):
+    return name in DOUBLE_METHODS | METHODS | {"add", "discard"} or name not in OF_VALUES and not name.startswith("__")
+
+
+def attributes_in(tree):
+    """The tuples (row, name) of all attributes that are given or read, those of methods that are called left out."""
+    called = {id(node.func) for node in ast.walk(tree) if isinstance(node, ast.Call)}
+    found = []
+    for node in ast.walk(tree):
+        if isinstance(node, ast.Attribute) and id(node) not in called:
+            found.append((node.lineno, node.attr))
+        elif isinstance(node, ast.ClassDef):
+            inside = [part for told in node.body if isinstance(told, (ast.Assign, ast.AnnAssign)) for part in ast.walk(told)]
+            found.extend((part.lineno, part.id) for part in inside if isinstance(part, ast.Name) and isinstance(part.ctx, ast.Store))
+    return found
+
+
+def wrong_attributes(tree):
+    return [(row, name) for row, name in attributes_in(tree) if not may_be_attribute(name)]
 
 
 class Language(unittest.TestCase):
@@ -202,6 +241,36 @@ class Language(unittest.TestCase):
                 self.assertIn(node.func.attr, METHODS | own, where)
             elif isinstance(node.func, ast.Name) and node.func.id in BUILTINS:
                 self.assertLessEqual({word.arg for word in node.keywords}, {"key", "default"}, where)
+
+    def test_names_of_attributes_and_own_methods(self):
+        for path in FILES:
+            self.assertEqual(wrong_attributes(parsed(path)), [], path)
+        for where, node in self.each(ast.ClassDef):
+            for part in node.body:
+                if isinstance(part, ast.FunctionDef):
+                    self.assertTrue(may_be_method(part.name), f"{where} {part.name}")
+
+    def test_wrong_names_of_attributes_are_seen(self):
+        barred = """items keys values pop update append clear extend insert remove reverse setdefault sort args encode decode
+            hex fromhex format discard union bit_length is_integer conjugate to_bytes real startswith isdigit replace
+            format_map mro register f_back tb_next co_names __odd__ _1""".split()
+        for name in barred:
+            for source in ("self.{} = 1", "for self.{} in rows: pass", "one, (self.{}, two) = rows", "self.things[0].{} += 1",
+                           "told = thing.{} if thing else 0", "class Box:\n    {} = 1", "class Box:\n    {}: int = 1"):
+                told = source.format(name)
+                self.assertEqual(wrong_attributes(ast.parse(told)), [(told.count("\n") + 1, name)], told)
+        free = """count index title find get join lower upper split strip copy add of_sort what value position _rows f_ fold
+            sorts told_sums""".split()
+        for name in free:
+            for source in ("self.{} = 1", "told = thing.{}", "class Box:\n    {} = 1"):
+                self.assertEqual(wrong_attributes(ast.parse(source.format(name))), [], name)
+        self.assertEqual(wrong_attributes(ast.parse("rows.append(words.items())")), [])
+
+    def test_wrong_names_of_own_methods_are_seen(self):
+        for name in "append sort_by add discard get items __init__ __len__ do".split():
+            self.assertTrue(may_be_method(name), name)
+        for name in "decode encode sort union hex conjugate __odd__ __hash__ __dict__".split():
+            self.assertFalse(may_be_method(name), name)
 
     def test_iterated_at_once(self):
         for path in FILES:
